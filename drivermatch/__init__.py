@@ -1,0 +1,1 @@
+"""Drivermatch: things that are plugged in, and helpers that claim them."""
