@@ -85,6 +85,12 @@ def check_numbers(numbers):
         least = number + 1
 
 
+def check_counted(numbers):
+    for at, number in enumerate(numbers):
+        if not is_number(number, at, at):
+            raise BadNumbers("numbers are 0, 1, 2 and so on")
+
+
 def check_things(things):
     """Refuse what is no list of (number, thing): the numbers ahead of all things."""
     check_numbers([number for number, _ in things])

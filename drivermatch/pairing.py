@@ -55,12 +55,20 @@ def is_reachable(place, had):
     return len(place) == 1 or place[:-1] in had
 
 
-def chosen(pairs, rooms):
-    """Who has which thing at rest: a dict from id to helper. The pairs come those ahead first."""
+def chosen(pairs, rooms, lets_in):
+    """Who has which thing at rest: a dict from id to helper. The pairs come those ahead first.
+
+    lets_in(id, helper) tells whether what is within a thing can be had, once the helper has the thing.
+    """
     had = {}
     left = dict(rooms)
     for place, helper in pairs:
-        if place not in had and is_reachable(place, had) and left[helper] > 0:
+        if place not in had and left[helper] > 0 and is_let_in(place, had, lets_in):
             had[place] = helper
             left[helper] -= 1
     return had
+
+
+def is_let_in(place, had, lets_in):
+    outer = place[:-1]
+    return is_reachable(place, had) and (outer not in had or lets_in(outer, had[outer]))

@@ -55,3 +55,19 @@ def refusal(call, *args):
     except MatchError as error:
         return error
     raise AssertionError(f"{call.__name__}{args} was not refused")
+
+
+def claims_on(*firsts, worth=0):
+    """Claims to things by their first mark."""
+    return tuple(((first, -1, -1), worth) for first in firsts)
+
+
+def plug_all(desk, *things):
+    return [desk.plug(one) for one in things]
+
+
+def whole(desk):
+    """All that a desk tells, without a change of it."""
+    helpers = desk.helpers()
+    return (desk.things(), helpers, desk.standing(), [desk.row(k) for k in helpers],
+            [desk.holds(k) for k in helpers], desk.told())

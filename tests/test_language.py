@@ -25,6 +25,8 @@ def bound(tree):
             yield node.id
         elif isinstance(node, (ast.FunctionDef, ast.ClassDef)):
             yield node.name
+        elif isinstance(node, ast.MatchAs) and node.name:
+            yield node.name
         elif isinstance(node, ast.arg):
             yield node.arg
         elif isinstance(node, ast.alias):
